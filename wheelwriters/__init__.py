@@ -1,0 +1,1 @@
+"""Rotorwork: machines of wired wheels."""
