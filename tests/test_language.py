@@ -65,7 +65,7 @@ class Language(unittest.TestCase):
     def test_imports_are_the_packages_own(self):
         for node, where in each_node(ast.ImportFrom):
             self.assertEqual(node.level, 0, where)
-            self.assertRegex(node.module, r"^wheelwriters\.[a-z]+$", where)
+            self.assertRegex(node.module, r"^wheelwriters\.[a-z_]+$", where)
             self.assertEqual([alias.asname for alias in node.names], [None] * len(node.names), where)
             self.assertNotIn("*", [alias.name for alias in node.names], where)
 
@@ -105,6 +105,70 @@ class Language(unittest.TestCase):
         for node, where in each_node(ast.Call):
             if isinstance(node.func, ast.Attribute):
                 self.assertIn(node.func.attr, PYTHONS_METHODS | own, where)
+
+    def test_no_local_is_called_like_a_class_or_an_import_of_its_file(self):
+        for name in package_files():
+            tree = ast.parse(text_of(name))
+            taken = set()
+            for node in tree.body:
+                if isinstance(node, ast.ClassDef):
+                    taken.add(node.name)
+                if isinstance(node, ast.ImportFrom):
+                    taken.update(alias.name for alias in node.names)
+            for node in ast.walk(tree):
+                if isinstance(node, ast.Name) and isinstance(node.ctx, ast.Store):
+                    self.assertNotIn(node.id, taken, f"{name}, line {node.lineno}")
+                if isinstance(node, ast.arg):
+                    self.assertNotIn(node.arg, taken, f"{name}, line {node.lineno}")
+
+    def test_no_name_is_a_method_and_a_value(self):
+        methods = set()
+        for node, where in each_node(ast.ClassDef):
+            methods.update(inner.name for inner in node.body if isinstance(inner, ast.FunctionDef))
+        for node, where in each_node(ast.Attribute):
+            if isinstance(node.ctx, ast.Store):
+                self.assertNotIn(node.attr, methods, where)
+                self.assertNotIn(node.attr, dir(str) + dir(int) + dir(list) + dir(dict) + dir(bytes), where)
+
+    def test_no_exponent_but_a_written_one(self):
+        for node, where in each_node(ast.BinOp):
+            if isinstance(node.op, ast.Pow):
+                self.assertIsInstance(node.right, ast.Constant, where)
+
+    def test_is_stands_beside_none_true_and_false(self):
+        for node, where in each_node(ast.Compare):
+            for operator, right in zip(node.ops, node.comparators):
+                if isinstance(operator, (ast.Is, ast.IsNot)):
+                    self.assertIsInstance(right, ast.Constant, where)
+
+    def test_walked_at_once(self):
+        walkers = ("zip", "enumerate", "reversed", "range")
+        takers = ("list", "tuple", "sorted", "sum", "zip", "enumerate")
+        walked = []
+        for node, where in each_node(ast.For, ast.comprehension):
+            walked.append(node.iter)
+        for node, where in each_node(ast.Call):
+            if isinstance(node.func, ast.Name) and node.func.id in takers:
+                walked += node.args
+        places = [(node.lineno, node.col_offset, ast.dump(node)) for node in walked]
+        for node, where in each_node(ast.Call):
+            if isinstance(node.func, ast.Name) and node.func.id in walkers:
+                self.assertIn((node.lineno, node.col_offset, ast.dump(node)), places, where)
+
+    def test_comprehensions_have_one_for_and_at_most_one_if(self):
+        for node, where in each_node(ast.ListComp):
+            self.assertEqual(len(node.generators), 1, where)
+            self.assertLessEqual(len(node.generators[0].ifs), 1, where)
+
+    def test_files_do_not_draw_from_one_another(self):
+        draws = {}
+        for name in package_files():
+            found = [node.module for node in ast.walk(ast.parse(text_of(name))) if isinstance(node, ast.ImportFrom)]
+            draws["wheelwriters." + name[:-3]] = found
+        while draws:
+            free = [name for name in draws if not any(module in draws for module in draws[name])]
+            self.assertNotEqual(free, [], draws)
+            draws = {name: draws[name] for name in draws if name not in free}
 
 
 if __name__ == "__main__":

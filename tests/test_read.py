@@ -1,9 +1,9 @@
 import random
 import unittest
 
-from helpers import fault_told, number_told, read
-from wheelwriters.bench import Line, answer_read, answers
-from wheelwriters.machines import machine_from
+from helpers import bytes_told, fault_told, machine, number_told, perm, places, put, read, some_machine, steps
+from helpers import text, wheel, write
+from wheelwriters.bench import answers
 
 # 3 letters, 2 wheels: each field by itself, so that a test can say which byte it changes.
 SMALL = [
@@ -15,19 +15,6 @@ SMALL = [
     3, 0, 1, 2, 0,      # 17 to 21: wheel 1's kind, ring, stand, notches (20 and 21)
     0, 2, 1,            # 22 to 24: its wires
 ]
-
-
-def wheel(n, kind=1, ring=0, stand=0, notches=0, wires=None):
-    return [kind, ring, stand, notches % 256, notches // 256] + list(wires if wires is not None else range(n))
-
-
-def machine(n, wheels=(), sends_back=0, first=None, last=None):
-    s = [n, len(wheels), sends_back]
-    s += list(first if first is not None else range(n))
-    s += list(last if last is not None else range(n))
-    for one in wheels:
-        s += one
-    return s
 
 
 def greatest():
@@ -220,68 +207,51 @@ class BytesThatEndOrGoOn(unittest.TestCase):
 
 
 class TheMachineThatIsThere(unittest.TestCase):
-    def read_on(self, line, s):
-        line.calls = read(s)[1:]
-        line.taken = 0
-        return answer_read(line)
-
     def test_none_at_the_beginning(self):
-        self.assertIsNone(Line([]).machine)
+        self.assertEqual(answers(write()), number_told(-8))
 
-    def test_each_part_of_it(self):
-        line = Line([])
-        self.assertEqual(self.read_on(line, SMALL), [0, 0, 0])
-        told = line.machine
-        self.assertEqual((told.letters, told.sends_back, len(told.wheels)), (3, True, 2))
-        self.assertEqual(told.first_board, [1, 0, 2] + list(range(3, 16)))
-        self.assertEqual(told.last_board, [2, 1, 0] + list(range(3, 16)))
-        first, second = told.wheels
-        self.assertEqual((first.kind, first.ring, first.stand, first.notches), (1, 2, 0, 5))
-        self.assertEqual(first.wires, [1, 2, 0] + list(range(3, 16)))
-        self.assertEqual((second.kind, second.ring, second.stand, second.notches), (3, 0, 1, 2))
-        self.assertEqual(second.wires, [0, 2, 1] + list(range(3, 16)))
+    def test_each_byte_of_it(self):
+        self.assertEqual(answers(read(SMALL) + write()), number_told(0) + bytes_told(25, SMALL))
 
     def test_the_lower_byte_of_notches_is_first(self):
-        self.assertEqual(machine_from(machine(16, [wheel(16, notches=0x8001)])).wheels[0].notches, 0x8001)
-        self.assertEqual(machine_from(machine(16, [wheel(16, notches=0x0102)])).wheels[0].notches, 0x0102)
+        # Wheel 1 moves where wheel 0 stands at a notch: at 0 and at 15, or at 1 and at 8.
+        for notches, moved_from in ((0x8001, (0, 15)), (0x0102, (1, 8))):
+            for stand in range(16):
+                s = machine(16, [wheel(16, 1, 0, stand, notches), wheel(16, 2)])
+                told = answers(read(s) + steps(1) + places())[8:]
+                with self.subTest(notches=notches, stand=stand):
+                    self.assertEqual(told, [5, 2, 0, 2, (stand + 1) % 16, 1 if stand in moved_from else 0])
 
     def test_a_refusal_leaves_what_was(self):
-        line = Line([])
-        self.read_on(line, SMALL)
-        was = line.machine
-        for s in ([], [0], SMALL[:-1], SMALL + [0], changed(SMALL, 24, 2), [0] * 257, SMALL + [0] * 232):
+        asks = write() + places() + perm(3) + text(0, [65, 66, 67, 65, 66, 67]) + write()
+        whole = answers(read(SMALL) + put([2, 1]) + asks)[8:]
+        for s in ([], [0], [2], SMALL[:-1], SMALL + [0], changed(SMALL, 24, 2), changed(SMALL, 11, 3), [0] * 257,
+                  SMALL + [0] * 232, greatest()[:-1], machine(2) + [0]):
+            told = answers(read(SMALL) + put([2, 1]) + read(s) + asks)
             with self.subTest(s=s):
-                self.assertLess(self.read_on(line, s)[0], 0)
-                self.assertTrue(line.machine is was)
-                self.test_each_part_of_it()
+                refusal = told[8:9 + told[8]]
+                self.assertLess(refusal[1], 0)
+                self.assertEqual(told[8 + len(refusal):], whole)
 
     def test_a_refusal_at_the_beginning_leaves_none(self):
-        line = Line([])
-        self.read_on(line, SMALL[:-1])
-        self.assertIsNone(line.machine)
+        self.assertEqual(answers(read(SMALL[:-1]) + write()), fault_told(24) + number_told(-8))
+        self.assertEqual(answers(read([0] * 257) + write()), number_told(-2) + number_told(-8))
 
     def test_another_machine_takes_its_place(self):
-        line = Line([])
-        self.read_on(line, SMALL)
-        self.read_on(line, machine(2))
-        self.assertEqual((line.machine.letters, line.machine.sends_back, line.machine.wheels), (2, False, []))
+        calls = read(SMALL) + read(machine(2)) + write() + read(SMALL) + write()
+        expected = number_told(0) * 2 + bytes_told(7, machine(2)) + number_told(0) + bytes_told(25, SMALL)
+        self.assertEqual(answers(calls), expected)
+
+    def test_the_same_machine_again_stands_as_told(self):
+        calls = read(SMALL) + steps(4) + read(SMALL) + write()
+        self.assertEqual(answers(calls), number_told(0) * 3 + bytes_told(25, SMALL))
 
     def test_one_row_of_bytes(self):
         # Whatever is read tells its bytes again, so no other row of bytes is the same machine.
         rng = random.Random(12)
-        for turn in range(200):
-            n = rng.randrange(2, 17)
-            wheels = []
-            for number in range(rng.randrange(5)):
-                wires = rng.sample(range(n), n)
-                kind = rng.randrange(2 if number == 0 else 4)
-                wheels.append(wheel(n, kind, rng.randrange(n), rng.randrange(n), rng.randrange(1 << n), wires))
-            s = machine(n, wheels, rng.randrange(2), rng.sample(range(n), n), rng.sample(range(n), n))
-            self.assertEqual(answers(read(s)), number_told(0))
-            told = machine_from(s)
-            again = [wheel(n, w.kind, w.ring, w.stand, w.notches, w.wires[:n]) for w in told.wheels]
-            boards = told.first_board[:n], told.last_board[:n]
-            self.assertEqual(machine(told.letters, again, 1 if told.sends_back else 0, *boards), s)
+        for turn in range(100):
+            s = some_machine(rng, rng.randrange(2, 17), rng.choice((0, 1, 2, 3, 3, 4)), rng.randrange(2))
+            self.assertEqual(answers(read(s) + write()), number_told(0) + bytes_told(len(s), s))
 
 
 if __name__ == "__main__":

@@ -1,103 +1,96 @@
-"""Machines of wired wheels, and how they are read from bytes."""
+"""Machines of wired wheels: how they step, what letters become in them, when their wheels come round."""
 
-from wheelwriters.permutations import LEAST_LETTERS, MOST_LETTERS
+from wheelwriters.permutations import MOST_LETTERS, inverse, product, seen_through
+from wheelwriters.wheels import followers, stands_of
 
-MOST_WHEELS = 4
-MOST_KIND = 3
-# No wheel stands before wheel 0, so none of the kinds that ask for one is its.
-MOST_KIND_OF_WHEEL_0 = 1
-BYTES_BEFORE_BOARDS = 3
-BYTES_BEFORE_WIRES = 5
-
-
-class Fault(Exception):
-    """What tells that bytes are no machine: place is the fault's place."""
-
-    def __init__(self, place):
-        self.place = place
-
-
-class Wheel:
-    """A wheel: bit i of its notches is 1 if it has one at letter i."""
-
-    def __init__(self, kind, ring, stand, notches, wires):
-        self.kind = kind
-        self.ring = ring
-        self.stand = stand
-        self.notches = notches
-        self.wires = wires
+# The byte that is letter 0 in a text.
+BYTE_OF_LETTER_0 = 65
 
 
 class Machine:
-    """A machine of so many letters; its boards and its wheels' wires are permutations of these."""
+    """A machine of so many letters; its boards and its wheels' wires are permutations of these.
 
-    def __init__(self, letters, sends_back, first_board, last_board, wheels):
+    Its number is that of how the wheels stand now.
+    """
+
+    def __init__(self, letters, sends_back, first_board, last_board, wheels, number):
         self.letters = letters
         self.sends_back = sends_back
         self.first_board = first_board
         self.last_board = last_board
         self.wheels = wheels
+        self.number = number
+        # At most 65536 numbers, and then each step that's ever done is one look at them.
+        self.followers = followers(letters, wheels)
 
 
-def byte_from(s, place, least, most):
-    """The byte at place, which is a field by itself: least to most."""
-    if place >= len(s):
-        raise Fault(len(s))
-    if s[place] < least or s[place] > most:
-        raise Fault(place)
-    return s[place]
+def stands_now(machine):
+    """The wheels' stands."""
+    return stands_of(machine.letters, len(machine.wheels), machine.number)
 
 
-def notches_from(s, place, n):
-    """The notches in the two bytes from place on, as one number."""
-    # A field that isn't whole is told by where the bytes end, even if its one byte is wrong too.
-    if place + 2 > len(s):
-        raise Fault(len(s))
-    notches = s[place] + 256 * s[place + 1]
-    if notches >> n != 0:
-        raise Fault(place)
-    return notches
+def number_after(machine, steps):
+    """The number of how the wheels would stand after so many steps."""
+    number = machine.number
+    for step in range(steps):
+        number = machine.followers[number]
+    return number
 
 
-def permutation_from(s, place, n):
-    """The permutation in the n bytes from place on."""
-    letters = []
-    for i in range(n):
-        letter = byte_from(s, place + i, 0, n - 1)
-        if letter in letters:
-            raise Fault(place + i)
-        letters.append(letter)
-    return letters + list(range(n, MOST_LETTERS))
+def through_wheels(machine, number):
+    """What all wheels do on the way to the last board, as a permutation, where they stand as number says."""
+    result = list(range(MOST_LETTERS))
+    for wheel, stand in zip(machine.wheels, stands_of(machine.letters, len(machine.wheels), number)):
+        result = product(result, wheel.wires_by_stand[stand])
+    return result
 
 
-def wheel_from(s, place, n, most_kind):
-    """The wheel in the bytes from place on."""
-    kind = byte_from(s, place, 0, most_kind)
-    ring = byte_from(s, place + 1, 0, n - 1)
-    stand = byte_from(s, place + 2, 0, n - 1)
-    notches = notches_from(s, place + 3, n)
-    wires = permutation_from(s, place + BYTES_BEFORE_WIRES, n)
-    return Wheel(kind, ring, stand, notches, wires)
+def setting(machine, number):
+    """The machine as a permutation, where its wheels stand as number says."""
+    way_in = product(machine.first_board, through_wheels(machine, number))
+    if machine.sends_back:
+        return seen_through(machine.last_board, way_in)
+    return product(way_in, machine.last_board)
 
 
-def wheels_from(s, place, n, how_many):
-    """So many wheels, which are all that the bytes from place on may tell."""
-    wheels = []
-    for number in range(how_many):
-        most_kind = MOST_KIND_OF_WHEEL_0 if number == 0 else MOST_KIND
-        wheels.append(wheel_from(s, place, n, most_kind))
-        place += BYTES_BEFORE_WIRES + n
-    if place < len(s):
-        raise Fault(place)
-    return wheels
+def is_letter(machine, byte):
+    """True if the byte of a text is one of the machine's letters."""
+    return BYTE_OF_LETTER_0 <= byte < BYTE_OF_LETTER_0 + machine.letters
 
 
-def machine_from(s):
-    """The machine that the bytes s tell; Fault is raised if they're no machine."""
-    n = byte_from(s, 0, LEAST_LETTERS, MOST_LETTERS)
-    how_many = byte_from(s, 1, 0, MOST_WHEELS)
-    sends_back = byte_from(s, 2, 0, 1) == 1
-    first_board = permutation_from(s, BYTES_BEFORE_BOARDS, n)
-    last_board = permutation_from(s, BYTES_BEFORE_BOARDS + n, n)
-    wheels = wheels_from(s, BYTES_BEFORE_BOARDS + 2 * n, n, how_many)
-    return Machine(n, sends_back, first_board, last_board, wheels)
+def letters_in(machine, s):
+    """How many of the bytes s are the machine's letters."""
+    return len([byte for byte in s if is_letter(machine, byte)])
+
+
+def letter_through(machine, undo, letter):
+    """What the letter becomes as the wheels stand now, or, if undo, the letter that becomes it."""
+    now = setting(machine, machine.number)
+    return inverse(now)[letter] if undo else now[letter]
+
+
+def text_through(machine, undo, s):
+    """What the bytes s become, or, if undo, were; afterwards the wheels stand where they've come to."""
+    result = []
+    for byte in s:
+        if is_letter(machine, byte):
+            machine.number = machine.followers[machine.number]
+            result.append(BYTE_OF_LETTER_0 + letter_through(machine, undo, byte - BYTE_OF_LETTER_0))
+        else:
+            result.append(byte)
+    return result
+
+
+def period(machine, most):
+    """After how many steps the wheels first stand as they'll stand again, and how many it is from there till they do.
+
+    None if both together are more than most.
+    """
+    met = {}
+    number = machine.number
+    for steps in range(most + 1):
+        if number in met:
+            return [met[number], steps - met[number]]
+        met[number] = steps
+        number = machine.followers[number]
+    return None
